@@ -1,6 +1,7 @@
 package tests
 
 import (
+	"fmt"
 	"strings"
 
 	"loop.example/kilntrace/impl"
@@ -49,6 +50,12 @@ func chain(parts ...[]impl.Ins) impl.Program {
 		out = append(out, part...)
 	}
 	return impl.Program{Code: out}
+}
+
+// brief tells a value, but not all of a long one.
+func brief(v any) string {
+	told := fmt.Sprintf("%+v", v)
+	return told[:min(len(told), 200)]
 }
 
 func long(n int) string { return strings.Repeat("x", n) }

@@ -18,7 +18,7 @@ func said(text string) impl.Reply { return impl.Reply{Has: true, Text: text} }
 func mustTurn(t *testing.T, p impl.Program, replies []impl.Reply, want impl.Turn) {
 	t.Helper()
 	if got := impl.Next(p, replies); got != want {
-		t.Errorf("%.200v with %d replies: %.200v, not %.200v", p, len(replies), got, want)
+		t.Errorf("%s with %d replies: %s, not %s", brief(p), len(replies), brief(got), brief(want))
 	}
 }
 
