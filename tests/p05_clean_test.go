@@ -179,6 +179,7 @@ type reference struct {
 	made   map[string]impl.Result
 	trails map[string][]impl.Seen
 	looked map[string]bool
+	asked  []string
 	path   []string
 }
 
@@ -203,6 +204,9 @@ func thingOf(sp impl.Space, name string) (impl.Source, impl.Target, bool) {
 // lies gives what lies under a name; false if that ends all that is being made.
 func (ref *reference) lies(name string) (impl.Result, bool) {
 	ref.looked[name] = true
+	if !slices.Contains(ref.asked, name) {
+		ref.asked = append(ref.asked, name)
+	}
 	if r, made := ref.made[name]; made {
 		return r, true
 	}
