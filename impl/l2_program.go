@@ -206,11 +206,16 @@ func quote(text string) string {
 			continue
 		}
 		out.WriteByte('\\')
-		out.WriteByte(hexDigits[b>>4])
-		out.WriteByte(hexDigits[b&15])
+		writeHex(&out, b)
 	}
 	out.WriteByte('"')
 	return out.String()
+}
+
+// writeHex writes a byte as two digits.
+func writeHex(out *strings.Builder, b byte) {
+	out.WriteByte(hexDigits[b>>4])
+	out.WriteByte(hexDigits[b&15])
 }
 
 // What may be wrong with a program's text.
@@ -365,16 +370,21 @@ func unquoteByte(inner string) (byte, int) {
 	if inner[0] != '\\' || len(inner) < 3 {
 		return 0, 0
 	}
-	high := strings.IndexByte(hexDigits, inner[1])
-	low := strings.IndexByte(hexDigits, inner[2])
-	if high < 0 || low < 0 {
-		return 0, 0
-	}
-	b := byte(high<<4 | low)
-	if plainByte(b) {
+	b, read := readHex(inner[1], inner[2])
+	if !read || plainByte(b) {
 		return 0, 0
 	}
 	return b, 3
+}
+
+// readHex reads a byte from two digits, and says whether they are such.
+func readHex(first, second byte) (byte, bool) {
+	high := strings.IndexByte(hexDigits, first)
+	low := strings.IndexByte(hexDigits, second)
+	if high < 0 || low < 0 {
+		return 0, false
+	}
+	return byte(high<<4 | low), true
 }
 
 // Next replays a run.

@@ -257,18 +257,26 @@ type slowBuild struct {
 	made      map[string]impl.Result
 	path      []string
 	ran, held []string
+	// used has the places of the records that held or were put.
+	used []int
 	// end is why all has ended, if it has.
 	end impl.Built
 }
 
 func slowly(s impl.Store, sp impl.Space, name string) impl.Built {
+	built, _ := slowlyUsed(s, sp, name)
+	return built
+}
+
+// slowlyUsed also tells the places of the records that held or were put.
+func slowlyUsed(s impl.Store, sp impl.Space, name string) (impl.Built, []int) {
 	b := &slowBuild{sp: sp, store: copyStore(s), made: map[string]impl.Result{}}
 	r, ok := b.lies(name)
 	if !ok {
 		b.end.Store = s
-		return b.end
+		return b.end, nil
 	}
-	return impl.Built{Code: r.Code, Text: r.Text, Store: b.store, Ran: b.ran, Held: b.held}
+	return impl.Built{Code: r.Code, Text: r.Text, Store: b.store, Ran: b.ran, Held: b.held}, b.used
 }
 
 func (b *slowBuild) stop(end impl.Built) (impl.Result, bool) {
@@ -301,7 +309,7 @@ func (b *slowBuild) lies(name string) (impl.Result, bool) {
 }
 
 func (b *slowBuild) target(of impl.Target) (impl.Result, bool) {
-	for _, r := range copyStore(b.store).Records {
+	for i, r := range copyStore(b.store).Records {
 		text, there := impl.GetText(b.store, r.Out)
 		result, read := impl.ReadResult(text)
 		if !samePrograms(r.Action, of.Action) || !there || !read {
@@ -312,7 +320,7 @@ func (b *slowBuild) target(of impl.Target) (impl.Result, bool) {
 			return impl.Result{}, false
 		}
 		if holds {
-			b.held = append(b.held, of.Name)
+			b.held, b.used = append(b.held, of.Name), append(b.used, i)
 			return result, true
 		}
 	}
@@ -367,8 +375,8 @@ func (b *slowBuild) run(of impl.Target) (impl.Result, bool) {
 	if len(b.store.Records) == impl.MaxRecs {
 		return b.stop(impl.Built{Code: impl.Full})
 	}
+	b.ran, b.used = append(b.ran, of.Name), append(b.used, len(b.store.Records))
 	b.store.Records = append(b.store.Records, impl.Note(of.Action, looks, r, b.store.Width))
-	b.ran = append(b.ran, of.Name)
 	return r, true
 }
 

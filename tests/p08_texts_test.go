@@ -323,15 +323,7 @@ func TestStoresShareNothing(t *testing.T) {
 		}
 		s = copyStore(given)
 		again := impl.PutText(s, text)
-		// Each list of the answer is written over alone, to the end of its room.
-		for i := range again.Store.Records {
-			left := copyStore(again.Store)
-			spoilRecord(again.Store.Records[i])
-			left.Records[i] = copyRecord(again.Store.Records[i])
-			if !sameStores(again.Store, left) {
-				t.Error("two lists of the answer share memory")
-			}
-		}
+		mustBeApart(t, text, again.Store)
 		spoilStore(again.Store)
 		if !sameStores(s, given) || !sameStores(kept.Store, want) {
 			t.Error("the answer shares memory with the argument or another answer")

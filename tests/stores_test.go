@@ -3,6 +3,7 @@ package tests
 import (
 	"slices"
 	"strconv"
+	"testing"
 
 	"loop.example/kilntrace/impl"
 )
@@ -87,6 +88,20 @@ func spoilStore(s impl.Store) {
 	}
 	for i := range s.Records[:cap(s.Records)] {
 		s.Records[:cap(s.Records)][i] = impl.Record{Out: "!spoilt"}
+	}
+}
+
+// mustBeApart writes over each record of a store alone, to the end of its room,
+// and asks that nothing else is changed by this.
+func mustBeApart(t *testing.T, what string, s impl.Store) {
+	t.Helper()
+	for i := range s.Records {
+		left := copyStore(s)
+		spoilRecord(s.Records[i])
+		left.Records[i] = copyRecord(s.Records[i])
+		if !sameStores(s, left) {
+			t.Errorf("%s: record %d shares memory with another list", what, i)
+		}
 	}
 }
 
