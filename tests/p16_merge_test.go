@@ -129,6 +129,40 @@ func TestRecordsThatDiffer(t *testing.T) {
 	}
 }
 
+// Records of all sizes that differ at one place, in their size, or in the order of
+// their entries are told apart, each from each other.
+func TestRecordsOfAllSizes(t *testing.T) {
+	var records []impl.Record
+	for _, n := range []int{1, 2, 7, 8, 9, 15, 16, 17, 24, 32, 33, 64, impl.MaxIns - 1, impl.MaxIns} {
+		same := impl.Record{Action: program(several(n, lit("a"))...), Looks: glances(n, 8), Out: long(8)}
+		bare := impl.Record{Action: copyOf(same.Action), Out: long(8)}
+		half, turned := copyRecord(same), copyRecord(same)
+		for i := range n {
+			half.Action.Code[i].Text = strconv.Itoa(i * 2 / n)
+			turned.Action.Code[i].Text = strconv.Itoa(1 - i*2/n)
+		}
+		if n == 1 {
+			records = append(records, same, bare, half)
+			continue
+		}
+		records = append(records, same, bare, half, turned)
+		for _, at := range []int{0, 1, 6, 7, 8, 9, 15, 16, n / 2, n - 1} {
+			if at < n {
+				code, looks := copyRecord(same), copyRecord(same)
+				code.Action.Code[at] = op(impl.OpEnd)
+				looks.Looks[at].Name = "else"
+				records = append(records, code, looks)
+			}
+		}
+	}
+	for i := 0; i < len(records); i += 5 {
+		a := storeWith(nil, records[:i]...)
+		mustMerge(t, a, storeWith(nil, records...), mergeSlowly(a, storeWith(nil, records...)))
+		b := storeWith(nil, records[i])
+		mustMerge(t, b, storeWith(nil, records...), mergeSlowly(b, storeWith(nil, records...)))
+	}
+}
+
 // textsApart gives n texts with sums of their own, and some pairs of one of them
 // and another text with its sum.
 func textsApart(n, width int) ([]string, [][2]string) {
